@@ -8,7 +8,8 @@ import (
 	"enclosure/api"
 )
 
-// farthest is the greatest power of two that is told apart from greater ones: all of them lead beyond the floats.
+// farthest is as far as Make looks at powers of two: beyond it every m comes to
+// what is infinite, or to 0, and sums of powers might wrap round.
 const farthest = 5000
 
 // Kind tells of which kind x is: api.NaN, Inf, Zero, Sub or Normal.
