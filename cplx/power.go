@@ -5,6 +5,7 @@ import (
 	mathbits "math/bits"
 
 	"enclosure/api"
+	"enclosure/twofold"
 )
 
 // greatest is the greatest power.
@@ -26,11 +27,11 @@ func Pow(a complex128, n int) (complex128, api.Errno) {
 	case api.Zero:
 		return 0, api.OK
 	}
-	z := power(numberOf(a), max(n, -n))
+	z := power(twofold.Of(a), max(n, -n))
 	if n < 0 {
-		z = numberOf(1).over(z)
+		z = twofold.Of(1).Quo(z)
 	}
-	return z.rounded(), api.OK
+	return z.Float(), api.OK
 }
 
 // kindOfPower is the kind of a to the power of n, which isn't 0; Normal, if that must
@@ -59,12 +60,12 @@ func kindOfPower(a complex128, n int) int {
 }
 
 // power is z to the power of n, which is above 0.
-func power(z number, n int) number {
+func power(z twofold.Num, n int) twofold.Num {
 	p := z
 	for i := mathbits.Len(uint(n)) - 2; i >= 0; i-- {
-		p = p.times(p)
+		p = p.Mul(p)
 		if n>>i&1 == 1 {
-			p = p.times(z)
+			p = p.Mul(z)
 		}
 	}
 	return p

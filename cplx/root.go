@@ -7,6 +7,7 @@ import (
 	"enclosure/api"
 	"enclosure/bits"
 	"enclosure/exact"
+	"enclosure/twofold"
 )
 
 // Abs is how far a is from 0, rounded.
@@ -20,7 +21,7 @@ func Abs(a complex128, mode int) (float64, api.Errno) {
 	case api.Inf:
 		return math.Inf(1), api.OK
 	}
-	return numberOf(a).norm().Root(mode)
+	return twofold.Of(a).Norm().Root(mode)
 }
 
 // Root is the root of a whose real part isn't below 0, and if that is 0, whose
@@ -32,10 +33,10 @@ func Root(a complex128) complex128 {
 	case api.Inf:
 		return infinite()
 	}
-	z := numberOf(a)
-	norm := z.norm()
-	x, y := part(norm, z.x), part(norm, z.x.Neg())
-	if z.y.Sign() < 0 {
+	z := twofold.Of(a)
+	norm := z.Norm()
+	x, y := part(norm, z.X), part(norm, z.X.Neg())
+	if z.Y.Sign() < 0 {
 		y = -y
 	}
 	return complex(x, y)
