@@ -49,7 +49,7 @@ func parted(t *testing.T, p []complex128, l []api.Disc) {
 	}
 }
 
-// small is some 20 times as much as what floats are rounded off by.
+// small is 16 times the step of the floats from 1 on.
 const small = 0x1p-48
 
 func TestFindOfRootsThatAreFloats(t *testing.T) {
