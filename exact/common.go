@@ -10,6 +10,9 @@ func common(a, b nat) nat {
 	}
 	// Twos go ahead, as below the bar of what comes of floats there is nothing else.
 	i, j := a.twos(), b.twos()
+	if i+1 == a.size() || j+1 == b.size() {
+		return nat{1}.left(min(i, j))
+	}
 	return euclid(a.right(i), b.right(j)).left(min(i, j))
 }
 

@@ -7,8 +7,8 @@ import (
 
 // over is a / b, where b divides a.
 func (a nat) over(b nat) nat {
-	if b.one() {
-		return a
+	if n := b.twos(); n+1 == b.size() {
+		return a.right(n)
 	}
 	q, _ := a.divide(b)
 	return q

@@ -74,6 +74,9 @@ func (a nat) window(n int) uint64 {
 
 // left is a times 2 to the power of n.
 func (a nat) left(n int) nat {
+	if n == 0 {
+		return a
+	}
 	i, s := n/64, n%64
 	z := make(nat, len(a)+i+1)
 	for k, w := range a {
@@ -85,6 +88,9 @@ func (a nat) left(n int) nat {
 
 // right is a over 2 to the power of n, without what is behind the point.
 func (a nat) right(n int) nat {
+	if n == 0 {
+		return a
+	}
 	z := make(nat, max(len(a)-n/64, 0))
 	for k := range z {
 		z[k] = a.window(n + 64*k)
@@ -111,8 +117,10 @@ func (a nat) minus(b nat) nat {
 
 func (a nat) times(b nat) nat {
 	z := make(nat, len(a)+len(b))
-	for i, w := range a {
-		z[i+len(b)] = gather(z[i:i+len(b)], b, w)
+	for i, w := range b {
+		if w > 0 { // which it seldom is in powers of two
+			z[i+len(a)] = gather(z[i:i+len(a)], a, w)
+		}
 	}
 	return trim(z)
 }
