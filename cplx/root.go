@@ -7,6 +7,7 @@ import (
 	"enclosure/api"
 	"enclosure/bits"
 	"enclosure/exact"
+	"enclosure/nums"
 	"enclosure/twofold"
 )
 
@@ -70,8 +71,6 @@ func nearest(cmp func(m exact.Num) int) float64 {
 
 // middle is halfway from x, which is finite and not below 0, to the next float above.
 func middle(x float64) exact.Num {
-	from, _ := exact.Of(x)
-	step, _ := exact.Of(bits.Ulp(x))
 	half, _ := exact.Two(-1)
-	return from.Add(step.Mul(half))
+	return nums.Just(x).Add(nums.Just(bits.Ulp(x)).Mul(half))
 }

@@ -7,17 +7,14 @@ import (
 
 	"enclosure/api"
 	"enclosure/exact"
+	"enclosure/nums"
 )
 
 // Span is all numbers from Lo to Hi, which isn't below Lo.
 type Span struct{ Lo, Hi exact.Num }
 
 // Of is just what s is, whose ends are finite.
-func Of(s api.Span) Span {
-	lo, _ := exact.Of(s.Lo)
-	hi, _ := exact.Of(s.Hi)
-	return Span{lo, hi}
-}
+func Of(s api.Span) Span { return Span{nums.Just(s.Lo), nums.Just(s.Hi)} }
 
 // Add is the span of all sums.
 func (a Span) Add(b Span) Span { return Span{a.Lo.Add(b.Lo), a.Hi.Add(b.Hi)} }

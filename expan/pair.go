@@ -3,6 +3,7 @@ package expan
 import (
 	"enclosure/api"
 	"enclosure/exact"
+	"enclosure/nums"
 )
 
 // Pair is the first two entries of a list; 0 for what isn't there.
@@ -51,7 +52,7 @@ func (p Pair) value() (exact.Num, api.Errno) {
 	if fault.Code != api.OK {
 		return exact.Num{}, fault.Code
 	}
-	v := total(x)
+	v := nums.Total(x)
 	if q, err := pairOf(v); err != api.OK || q != p {
 		return exact.Num{}, api.ErrForm
 	}

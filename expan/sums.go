@@ -3,6 +3,7 @@ package expan
 import (
 	"enclosure/api"
 	"enclosure/exact"
+	"enclosure/nums"
 	"enclosure/several"
 )
 
@@ -12,7 +13,7 @@ func Sum(l []float64, mode int) (float64, api.Fault) {
 	if fault.Code != api.OK {
 		return 0, fault
 	}
-	return rounded(total(x), mode)
+	return rounded(nums.Total(x), mode)
 }
 
 // Dot is the sum of the products, rounded.
@@ -27,7 +28,7 @@ func Dot(a, b []float64, mode int) (float64, api.Fault) {
 	for i, v := range y {
 		x[i] = x[i].Mul(v)
 	}
-	return rounded(total(x), mode)
+	return rounded(nums.Total(x), mode)
 }
 
 func rounded(v exact.Num, mode int) (float64, api.Fault) {

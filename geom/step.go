@@ -3,6 +3,7 @@ package geom
 import (
 	"enclosure/api"
 	"enclosure/exact"
+	"enclosure/nums"
 )
 
 // step is how far one point lies from another, exactly.
@@ -12,11 +13,7 @@ type step struct{ x, y exact.Num }
 func between(a, b api.Point) step { return step{less(b.X, a.X), less(b.Y, a.Y)} }
 
 // less is just x - y.
-func less(x, y float64) exact.Num {
-	v, _ := exact.Of(x)
-	w, _ := exact.Of(y)
-	return v.Sub(w)
-}
+func less(x, y float64) exact.Num { return nums.Just(x).Sub(nums.Just(y)) }
 
 // cross is above 0 where q turns left of p.
 func (p step) cross(q step) exact.Num { return p.x.Mul(q.y).Sub(p.y.Mul(q.x)) }

@@ -2,6 +2,7 @@ package matrix
 
 import (
 	"enclosure/exact"
+	"enclosure/nums"
 )
 
 // rows is a matrix, exactly.
@@ -16,17 +17,9 @@ func exactly(a [][]float64) rows {
 	return m
 }
 
-// entries is just what l is.
+// entries is just what l is, whose entries are finite.
 func entries(l []float64) []exact.Num {
-	var v []exact.Num
-	for _, x := range l {
-		v = append(v, just(x))
-	}
-	return v
-}
-
-func just(x float64) exact.Num {
-	v, _ := exact.Of(x)
+	v, _ := nums.Read(l)
 	return v
 }
 

@@ -6,6 +6,7 @@ import (
 	"enclosure/api"
 	"enclosure/bits"
 	"enclosure/exact"
+	"enclosure/nums"
 )
 
 // greatest is the greatest entry of which Stretches tells.
@@ -72,7 +73,7 @@ func Near(a [][]float64, v []float64, x float64) (float64, api.Fault) {
 		return 0, api.Fault{Code: api.ErrNaN, At: n}
 	}
 	w := entries(v)
-	off := exactly(a).more(just(x).Neg()).along(w)
+	off := exactly(a).more(nums.Just(x).Neg()).along(w)
 	square, err := dot(off, off).Quo(dot(w, w)) // by 0, if all of v are 0, and only then
 	if err != api.OK {
 		return 0, api.Fault{Code: err, At: n}
@@ -85,7 +86,7 @@ func Near(a [][]float64, v []float64, x float64) (float64, api.Fault) {
 // it. Each counts as often as it is one; and none of them is complex.
 func beside(p []exact.Num, x float64) (below, above int) {
 	var there, back []int
-	for k, v := range moved(p, just(x)) {
+	for k, v := range moved(p, nums.Just(x)) {
 		there = append(there, v.Sign())
 		back = append(back, v.Sign()*(1-k%2*2))
 	}

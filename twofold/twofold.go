@@ -6,17 +6,14 @@ import (
 
 	"enclosure/api"
 	"enclosure/exact"
+	"enclosure/nums"
 )
 
 // Num is X + Y i.
 type Num struct{ X, Y exact.Num }
 
 // Of is just what a is, which is finite.
-func Of(a complex128) Num {
-	x, _ := exact.Of(real(a))
-	y, _ := exact.Of(imag(a))
-	return Num{x, y}
-}
+func Of(a complex128) Num { return Num{nums.Just(real(a)), nums.Just(imag(a))} }
 
 // Add is a + b.
 func (a Num) Add(b Num) Num { return Num{a.X.Add(b.X), a.Y.Add(b.Y)} }

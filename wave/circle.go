@@ -6,6 +6,7 @@ import (
 
 	"enclosure/api"
 	"enclosure/exact"
+	"enclosure/nums"
 )
 
 // longest has the roots of the longest row: at the place k e to the power of
@@ -52,19 +53,13 @@ func cosine(k int) exact.Num {
 // one step of Newton's way squares that.
 func root(x exact.Num) exact.Num {
 	near, _ := x.Root(api.Near)
-	v := just(near)
+	v := nums.Just(near)
 	w, _ := x.Quo(v)
 	return half(v.Add(w))
 }
 
 func half(x exact.Num) exact.Num {
 	v, _ := x.Quo(exact.Int(2))
-	return v
-}
-
-// just is what x is, which is finite.
-func just(x float64) exact.Num {
-	v, _ := exact.Of(x)
 	return v
 }
 
@@ -115,7 +110,7 @@ func swung(l []complex128, back bool) []complex128 {
 func bound(l []complex128, back bool) float64 {
 	sum, _ := exact.Two(-950)
 	for _, z := range l {
-		sum = sum.Add(just(math.Abs(real(z)))).Add(just(math.Abs(imag(z))))
+		sum = sum.Add(nums.Just(math.Abs(real(z)))).Add(nums.Just(math.Abs(imag(z))))
 	}
 	n, parts := len(l), 1<<50
 	if back {
