@@ -52,6 +52,16 @@ func (a Span) Pow(n int) Span {
 	return around(l)
 }
 
+// In: does all of a lie in b?
+func (a Span) In(b Span) bool { return a.Lo.Cmp(b.Lo) >= 0 && a.Hi.Cmp(b.Hi) <= 0 }
+
+// Meet is what lies in both a and b, which have something in common.
+func (a Span) Meet(b Span) Span {
+	lo := []exact.Num{a.Lo, b.Lo}
+	hi := []exact.Num{a.Hi, b.Hi}
+	return Span{slices.MaxFunc(lo, exact.Num.Cmp), slices.MinFunc(hi, exact.Num.Cmp)}
+}
+
 // Out is a, rounded outwards.
 func (a Span) Out() (api.Span, api.Errno) {
 	lo, _ := a.Lo.Float(api.Down)

@@ -99,6 +99,21 @@ func TestPowIsExact(t *testing.T) {
 	}
 }
 
+// TestInAndMeet: what lies where, by the floats themselves.
+func TestInAndMeet(t *testing.T) {
+	for _, s := range spans() {
+		for _, u := range spans() {
+			a, b := ends.Of(s), ends.Of(u)
+			if got, want := a.In(b), u.Lo <= s.Lo && s.Hi <= u.Hi; got != want {
+				t.Errorf("%v in %v: %v", s, u, got)
+			}
+			if lo, hi := max(s.Lo, u.Lo), min(s.Hi, u.Hi); lo <= hi {
+				is(t, "Meet", a.Meet(b), rat(lo), rat(hi))
+			}
+		}
+	}
+}
+
 func TestOut(t *testing.T) {
 	const most, least = math.MaxFloat64, math.SmallestNonzeroFloat64
 	num := func(x float64) exact.Num { return ends.Of(api.Span{Lo: x, Hi: x}).Lo }
